@@ -1,0 +1,1 @@
+"""Ladingchain: papers for goods afloat, handed on by signing."""
