@@ -31,6 +31,15 @@ OUT = (
     ast.TryStar, ast.NamedExpr, ast.Starred, ast.Div, ast.MatMult, ast.AnnAssign,
 )
 METHODS = ("__init__", "__eq__", "__repr__", "__str__", "__len__")
+OWN_OF_PYTHON = set(
+    "append clear copy count endswith extend find get index insert isalnum isalpha isdigit islower isspace isupper"
+    " items join keys ljust lower lstrip partition pop remove replace reverse rfind rjust rpartition rsplit rstrip"
+    " setdefault split splitlines startswith strip update upper values zfill bit_length".split()
+)
+READING = ("get", "items", "keys", "values", "index", "count", "copy")
+WALKED = ("zip", "enumerate", "reversed", "range")
+WALKERS = ("list", "tuple", "dict", "sorted", "sum", "any", "all", "enumerate", "zip", "min", "max")
+TREES = {path.stem: ast.parse(text) for path, text in zip(FILES, TEXTS)}
 
 
 def names_in(node):
@@ -46,6 +55,32 @@ def names_in(node):
     if isinstance(node, ast.alias):
         return [node.name] + ([node.asname] if node.asname else [])
     return []
+
+
+def top_names(tree):
+    """The names that a file binds at its top, imports too, each as often as it is bound."""
+    names = []
+    for node in tree.body:
+        if isinstance(node, (ast.FunctionDef, ast.ClassDef)):
+            names.append(node.name)
+        if isinstance(node, ast.Assign):
+            names.append(node.targets[0].id)
+        if isinstance(node, ast.ImportFrom):
+            names.extend(alias.name for alias in node.names)
+    return names
+
+
+def parents_in(tree):
+    return {child: node for node in ast.walk(tree) for child in ast.iter_child_nodes(node)}
+
+
+def is_call_of(node, names):
+    return isinstance(node, ast.Call) and isinstance(node.func, ast.Name) and node.func.id in names
+
+
+def own_methods():
+    classes = [node for name, node in NODES if isinstance(node, ast.ClassDef)]
+    return {inner.name for node in classes for inner in node.body if isinstance(inner, ast.FunctionDef)}
 
 
 def where(name, node):
@@ -79,6 +114,82 @@ class EachFile(unittest.TestCase):
                         self.assertIn(node, tree.body)
                         self.assertEqual(node.level, 0)
                         self.assertTrue(node.module.startswith("ladingchain."))
+
+    def test_imports_are_from_the_file_that_defines_the_name(self):
+        for stem, tree in TREES.items():
+            for node in tree.body:
+                if isinstance(node, ast.ImportFrom):
+                    drawn_from = TREES[node.module.partition(".")[2]]
+                    imported = [inner for inner in drawn_from.body if isinstance(inner, ast.ImportFrom)]
+                    passed_on = {alias.name for inner in imported for alias in inner.names}
+                    for alias in node.names:
+                        with self.subTest(where(stem, node), name=alias.name):
+                            self.assertIn(alias.name, top_names(drawn_from))
+                            self.assertNotIn(alias.name, passed_on)
+
+    def test_no_two_files_draw_from_one_another(self):
+        left = {
+            stem: {node.module.partition(".")[2] for node in tree.body if isinstance(node, ast.ImportFrom)}
+            for stem, tree in TREES.items()
+        }
+        while left:
+            free = [stem for stem, drawn in left.items() if not drawn & set(left)]
+            self.assertNotEqual(free, [], f"in a ring: {sorted(left)}")
+            left = {stem: drawn for stem, drawn in left.items() if stem not in free}
+
+    def test_at_the_top_each_name_is_bound_once_to_a_plain_value(self):
+        kinds = (ast.Expr, ast.ImportFrom, ast.FunctionDef, ast.ClassDef, ast.Assign)
+        plain = (ast.Constant, ast.List, ast.Tuple, ast.Dict, ast.Name, ast.Load)
+        for stem, tree in TREES.items():
+            names = top_names(tree)
+            self.assertEqual(len(names), len(set(names)), stem)
+            for node in tree.body:
+                with self.subTest(where(stem, node)):
+                    self.assertIsInstance(node, kinds)
+                    if isinstance(node, ast.Assign):
+                        inner = list(ast.walk(node.value))
+                        self.assertEqual([part for part in inner if not isinstance(part, plain)], [])
+                        self.assertFalse(any(isinstance(part, (ast.List, ast.Dict)) for part in inner[1:]))
+
+    def test_lists_and_dicts_of_the_top_are_only_read(self):
+        for stem, tree in TREES.items():
+            parents = parents_in(tree)
+            tables = [node.targets[0].id for node in tree.body
+                      if isinstance(node, ast.Assign) and isinstance(node.value, (ast.List, ast.Dict))]
+            for node in ast.walk(tree):
+                if isinstance(node, ast.Name) and node.id in tables and isinstance(node.ctx, ast.Load):
+                    above = parents[node]
+                    with self.subTest(where(stem, node)):
+                        self.assertIsInstance(above, (ast.Subscript, ast.Compare, ast.For, ast.Attribute, ast.Call))
+                        if isinstance(above, ast.Subscript):
+                            self.assertIsInstance(above.ctx, ast.Load)
+                        if isinstance(above, ast.Attribute):
+                            self.assertIn(above.attr, READING)
+                        if isinstance(above, ast.Call):
+                            self.assertTrue(is_call_of(above, ("len", "list", "dict", "tuple", "sorted")))
+
+    def test_locals_are_not_called_like_classes_or_imports(self):
+        for stem, tree in TREES.items():
+            taken = [alias.name for node in tree.body if isinstance(node, ast.ImportFrom) for alias in node.names]
+            taken += [node.name for node in tree.body if isinstance(node, ast.ClassDef)]
+            for node in ast.walk(tree):
+                with self.subTest(where(stem, node)):
+                    if isinstance(node, ast.arg):
+                        self.assertNotIn(node.arg, taken)
+                    if isinstance(node, ast.Name) and isinstance(node.ctx, ast.Store):
+                        self.assertNotIn(node.id, taken)
+
+    def test_what_is_walked_is_walked_on_the_spot_and_sets_are_not_kept(self):
+        for stem, tree in TREES.items():
+            parents = parents_in(tree)
+            for node in ast.walk(tree):
+                above = parents.get(node)
+                with self.subTest(where(stem, node)):
+                    if is_call_of(node, WALKED):
+                        looped = isinstance(above, (ast.For, ast.comprehension)) and above.iter is node
+                        self.assertTrue(looped or is_call_of(above, WALKERS))
+                    if is_call_of(node, ("set", "frozenset")) and not isinstance(above, (ast.Compare, ast.BinOp)):
+                        self.assertTrue(is_call_of(above, ("len", "sorted")))
 
     def test_an_expression_by_itself_is_a_call(self):
         for path, text in zip(FILES, TEXTS):
@@ -130,6 +241,49 @@ class EachNode(unittest.TestCase):
                     self.assertIsInstance(node.ctx, ast.Load)
                 if isinstance(node, ast.arg):
                     self.assertFalse(hasattr(builtins, node.arg))
+
+    def test_of_python_s_own_methods_only_the_listed_ones(self):
+        methods = own_methods()
+        for name, node in NODES:
+            if isinstance(node, ast.Call) and isinstance(node.func, ast.Attribute):
+                with self.subTest(where(name, node)):
+                    self.assertIn(node.func.attr, OWN_OF_PYTHON | methods)
+
+    def test_no_annotations(self):
+        for name, node in NODES:
+            with self.subTest(where(name, node)):
+                if isinstance(node, ast.arg):
+                    self.assertIsNone(node.annotation)
+                if isinstance(node, ast.FunctionDef):
+                    self.assertIsNone(node.returns)
+
+    def test_is_stands_beside_none_true_and_false_alone(self):
+        for name, node in NODES:
+            if isinstance(node, ast.Compare):
+                for op, value in zip(node.ops, node.comparators):
+                    if isinstance(op, (ast.Is, ast.IsNot)):
+                        with self.subTest(where(name, node)):
+                            self.assertIsInstance(value, ast.Constant)
+                            self.assertIn(value.value, (None, True, False))
+
+    def test_errors_are_taken_by_their_own_names(self):
+        for name, node in NODES:
+            if isinstance(node, ast.ExceptHandler):
+                with self.subTest(where(name, node)):
+                    self.assertIsNotNone(node.type)
+                    caught = {inner.id for inner in ast.walk(node.type) if isinstance(inner, ast.Name)}
+                    self.assertEqual(caught & {"Exception", "BaseException", "TypeError"}, set())
+            if isinstance(node, ast.Raise):
+                with self.subTest(where(name, node)):
+                    self.assertIsInstance(node.exc, ast.Call)
+
+    def test_braces_of_f_strings_hold_plain_names(self):
+        for name, node in NODES:
+            if isinstance(node, ast.FormattedValue):
+                with self.subTest(where(name, node)):
+                    self.assertIsInstance(node.value, ast.Name)
+                    self.assertIn(node.conversion, (-1, ord("r")))
+                    self.assertIsNone(node.format_spec)
 
 
 if __name__ == "__main__":
