@@ -40,6 +40,12 @@ READING = ("get", "items", "keys", "values", "index", "count", "copy")
 WALKED = ("zip", "enumerate", "reversed", "range")
 WALKERS = ("list", "tuple", "dict", "sorted", "sum", "any", "all", "enumerate", "zip", "min", "max")
 TREES = {path.stem: ast.parse(text) for path, text in zip(FILES, TEXTS)}
+CHANGING = ("append", "clear", "extend", "insert", "pop", "remove", "reverse", "setdefault", "update")
+NAMES_OF_VALUES = {name for kind in (str, int, list, tuple, dict, set, frozenset, bytes) for name in dir(kind)}
+ALSO_FREE = set("count index title find get join lower upper split strip copy add".split())
+KEYWORDS = {"sorted": ("key", "reverse"), "min": ("key", "default"), "max": ("key", "default"), "sum": ("start",),
+            "enumerate": ("start",), "zip": ("strict",)}
+NO_FILES = re.compile(r"test.*|site|conftest|sitecustomize|usercustomize|typing.*|enum|type")
 
 
 def names_in(node):
@@ -83,6 +89,15 @@ def own_methods():
     return {inner.name for node in classes for inner in node.body if isinstance(inner, ast.FunctionDef)}
 
 
+def own_classes():
+    return {node.name for name, node in NODES if isinstance(node, ast.ClassDef)}
+
+
+def values_given():
+    """The attributes that are given a value somewhere in the package, with the node that gives it."""
+    return [(name, node) for name, node in NODES if isinstance(node, ast.Attribute) and isinstance(node.ctx, ast.Store)]
+
+
 def where(name, node):
     return f"{name}:{getattr(node, 'lineno', 0)}"
 
@@ -93,6 +108,8 @@ class TheFolder(unittest.TestCase):
         for path in FILES:
             with self.subTest(path.name):
                 self.assertRegex(path.name, r"\A([a-z][a-z0-9_]*|__init__|__main__)\.py\Z")
+                self.assertIsNone(NO_FILES.fullmatch(path.stem))
+                self.assertNotIn(path.stem, vars(builtins))
 
 
 class EachFile(unittest.TestCase):
@@ -198,6 +215,115 @@ class EachFile(unittest.TestCase):
                 if isinstance(node, ast.Expr) and node is not tree.body[0]:
                     with self.subTest(where(path.name, node)):
                         self.assertIsInstance(node.value, ast.Call)
+
+
+class ClassesAndTheirValues(unittest.TestCase):
+    def test_no_name_is_a_method_and_a_value(self):
+        values = {node.attr for name, node in values_given()}
+        self.assertEqual(values & own_methods(), set())
+
+    def test_no_method_stands_twice_in_a_class_and_nothing_else_stands_there(self):
+        for name, node in NODES:
+            if isinstance(node, ast.ClassDef):
+                with self.subTest(where(name, node)):
+                    methods = [inner.name for inner in node.body if isinstance(inner, ast.FunctionDef)]
+                    self.assertEqual(len(methods), len(set(methods)))
+                    self.assertLessEqual(len(node.bases), 1)
+                    for inner in node.body:
+                        self.assertIsInstance(inner, (ast.FunctionDef, ast.Pass))
+
+    def test_own_methods_and_values_are_called_unlike_those_of_python_s_values(self):
+        values = {node.attr for name, node in values_given()}
+        self.assertEqual(values & (NAMES_OF_VALUES - ALSO_FREE), set())
+        self.assertEqual(own_methods() & (NAMES_OF_VALUES - OWN_OF_PYTHON - set(METHODS) - {"add", "discard"}), set())
+
+    def test_values_are_given_through_local_names(self):
+        for name, node in values_given():
+            with self.subTest(where(name, node)):
+                self.assertIsInstance(node.value, ast.Name)
+                self.assertNotIn(node.value.id, top_names(TREES[name.partition(".")[0]]))
+
+    def test_classes_are_called_or_stand_by_isinstance_except_and_raise_alone(self):
+        classes = own_classes()
+        for stem, tree in TREES.items():
+            parents = parents_in(tree)
+            for node in ast.walk(tree):
+                if isinstance(node, ast.Name) and node.id in classes:
+                    above = parents[node]
+                    with self.subTest(where(stem, node)):
+                        called = isinstance(above, ast.Call) and above.func is node
+                        caught = isinstance(above, (ast.ExceptHandler, ast.ClassDef))
+                        self.assertTrue(called or caught or is_call_of(above, ("isinstance",)))
+
+    def test_methods_are_called_where_they_stand(self):
+        methods = own_methods() | OWN_OF_PYTHON
+        for stem, tree in TREES.items():
+            parents = parents_in(tree)
+            for node in ast.walk(tree):
+                if isinstance(node, ast.Attribute) and node.attr in methods:
+                    with self.subTest(where(stem, node)):
+                        self.assertIsInstance(parents[node], ast.Call)
+                        self.assertIs(parents[node].func, node)
+
+
+class LoopsAndCalls(unittest.TestCase):
+    def test_what_a_loop_walks_is_not_changed_in_it(self):
+        for name, node in NODES:
+            if isinstance(node, ast.For):
+                walked = [ast.unparse(inner) for inner in ast.walk(node.iter) if isinstance(inner, ast.expr)]
+                for inner in [part for line in node.body for part in ast.walk(line)]:
+                    with self.subTest(where(name, inner)):
+                        if isinstance(inner, ast.Call) and isinstance(inner.func, ast.Attribute):
+                            changes = inner.func.attr in CHANGING
+                            self.assertFalse(changes and ast.unparse(inner.func.value) in walked)
+                        if isinstance(inner, ast.Subscript) and isinstance(inner.ctx, ast.Store):
+                            self.assertNotIn(ast.unparse(inner.value), walked)
+
+    def test_items_keys_and_values_are_walked_on_the_spot(self):
+        for stem, tree in TREES.items():
+            parents = parents_in(tree)
+            for node in ast.walk(tree):
+                if isinstance(node, ast.Call) and isinstance(node.func, ast.Attribute):
+                    if node.func.attr in ("items", "keys", "values"):
+                        above = parents[node]
+                        looped = isinstance(above, (ast.For, ast.comprehension)) and above.iter is node
+                        with self.subTest(where(stem, node)):
+                            self.assertTrue(looped or is_call_of(above, WALKERS))
+
+    def test_keywords_stand_where_they_are_listed(self):
+        for name, node in NODES:
+            if isinstance(node, ast.Call):
+                with self.subTest(where(name, node)):
+                    listed = KEYWORDS.get(node.func.id, ()) if isinstance(node.func, ast.Name) else ()
+                    self.assertEqual([word.arg for word in node.keywords if word.arg not in listed], [])
+
+    def test_comprehensions_have_one_for_and_at_most_one_if(self):
+        for name, node in NODES:
+            if isinstance(node, ast.ListComp):
+                with self.subTest(where(name, node)):
+                    self.assertEqual(len(node.generators), 1)
+                    self.assertLessEqual(len(node.generators[0].ifs), 1)
+
+    def test_of_errors_the_package_s_own_alone_are_taken_and_raised(self):
+        classes = own_classes()
+        for name, node in NODES:
+            with self.subTest(where(name, node)):
+                if isinstance(node, ast.ExceptHandler):
+                    self.assertIn(ast.unparse(node.type), classes)
+                if isinstance(node, ast.Raise):
+                    self.assertIn(ast.unparse(node.exc.func), classes)
+                    self.assertIsNone(node.cause)
+
+    def test_functions_kept_in_dicts_are_defined_above_in_the_same_file(self):
+        for stem, tree in TREES.items():
+            above = set()
+            for node in tree.body:
+                if isinstance(node, ast.Assign):
+                    held = [inner.id for inner in ast.walk(node.value) if isinstance(inner, ast.Name)]
+                    with self.subTest(where(stem, node)):
+                        self.assertEqual([name for name in held if name not in above], [])
+                if isinstance(node, ast.FunctionDef):
+                    above.add(node.name)
 
 
 class EachNode(unittest.TestCase):
