@@ -453,6 +453,21 @@ class Joinings(LadingCase):
         self.assertEqual(account_of(store, "rice"), (15, 0, 15, 0))
         self.assertEqual(paper_of(store, "r"), ("rice", 5, "ann", False))
 
+    def test_a_joined_note_of_several_bills_is_taken_or_parted(self):
+        rows = self.ROWS + [join("big", "ann", "y", "v")]
+        others = [("s", "ann", "salt", 7), ("u", "ann", "rice", 2), ("x", "ann", "rice", 4)]
+        spent = {("paper", "big"): ("rice", 9, "ann", True), ("why", "big", "ann"): "spent", ("why", "big", "bob"): "spent"}
+        before = all_answers(store_of(rows), ASKED)
+        self.assertEqual(changed(before, all_answers(store_of(rows + [take("big", "ann")]), ASKED)), spent | {
+            ("account", "rice"): (15, 9, 6, 0), ("lying", "rice"): 6, ("heirs", "abc"): ["x"], ("heirs", "def"): ["u"],
+            ("who",): others,
+        })
+        self.assertEqual(changed(before, all_answers(store_of(rows + [part("big", "ann", p=9)]), ASKED)), spent | {
+            ("papers",): sorted(all_papers(store_of(rows)) + ["p"]), ("paper", "p"): ("rice", 9, "ann", False),
+            ("roots", "p"): ["abc", "def"], ("heirs", "abc"): ["p", "x"], ("heirs", "def"): ["p", "u"],
+            ("why", "p", "ann"): "", ("why", "p", "bob"): "not yours", ("who",): [("p", "ann", "rice", 9)] + others,
+        })
+
     def test_twelve_notes_of_one_bill(self):
         names = tuple("abcdefghijkl")
         store = store_of([give("all", tons=78), ("part", 3, "all/1", "ann", tuple(zip(names, range(1, 13)))),
