@@ -456,7 +456,8 @@ class Joinings(LadingCase):
     def test_a_joined_note_of_several_bills_is_taken_or_parted(self):
         rows = self.ROWS + [join("big", "ann", "y", "v")]
         others = [("s", "ann", "salt", 7), ("u", "ann", "rice", 2), ("x", "ann", "rice", 4)]
-        spent = {("paper", "big"): ("rice", 9, "ann", True), ("why", "big", "ann"): "spent", ("why", "big", "bob"): "spent"}
+        spent = {("paper", "big"): ("rice", 9, "ann", True), ("why", "big", "ann"): "spent",
+                 ("why", "big", "bob"): "spent"}
         before = all_answers(store_of(rows), ASKED)
         self.assertEqual(changed(before, all_answers(store_of(rows + [take("big", "ann")]), ASKED)), spent | {
             ("account", "rice"): (15, 9, 6, 0), ("lying", "rice"): 6, ("heirs", "abc"): ["x"], ("heirs", "def"): ["u"],
